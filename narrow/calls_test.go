@@ -25,11 +25,12 @@ func TestEveryCallEnds(t *testing.T) {
 	texts := []string{
 		"", "\x00", "\xff", "é", strings.Repeat("!", 180), strings.Repeat("(", 180), strings.Repeat("[&", 90), "(" + strings.Repeat("!", 179),
 		strings.Repeat("[a{", 60), strings.Repeat("[!a{", 25) + strings.Repeat("}]", 25), strings.Repeat("(a{", 22) + strings.Repeat("}{})", 22), strings.Repeat("(a{}{", 20) + strings.Repeat("})", 20),
-		strings.Repeat("!;", 90), strings.Repeat("a", 181), strings.Repeat("a=1;", 45), strings.Repeat("a=1;", 46), strings.Repeat("(", 5000000), strings.Repeat("a=1,01;", 128),
+		strings.Repeat("!;", 90), strings.Repeat("a", 181), strings.Repeat("a=1;", 45), strings.Repeat("a=1;", 46), strings.Repeat("(", 5000000), strings.Repeat("a=1,01;", 128), strings.Repeat("a=1,01;", 90),
+		strings.Repeat("*,00;", 90), strings.Repeat("*,00;", 180), strings.Repeat("a:n,00,90;", 90), strings.Repeat("*,01;", 5000000),
 	}
 	d := dice{2}
 	for i := 0; i < 3000; i++ {
-		texts = append(texts, d.text(alphabet, d.below(200)))
+		texts = append(texts, d.text(alphabet, d.below(200)), d.damaged(d.graph(d.below(20))))
 	}
 	for _, text := range texts {
 		for _, fuel := range []int{math.MinInt, -1, 0, 7, 300, 301, math.MaxInt} {
@@ -42,6 +43,14 @@ func TestEveryCallEnds(t *testing.T) {
 		if (e == narrow.ErrLong) != (len(text) > 40) {
 			t.Errorf("P1: an input of %d bytes: %d", len(text), e)
 		}
+		graph, e, place := narrow.Graph(text)
+		if (e == narrow.ErrLong) != (len(text) > 180) || (e != narrow.OK && graph != "") || (e != narrow.ErrForm && place != 0) {
+			t.Errorf("P1: Graph(%.200q) answers %q, %d, %d", text, graph, e, place)
+		}
+		told, out, e = narrow.Walk(text, "1", 300)
+		if (e == narrow.ErrLong) != (len(text) > 900) || (e != narrow.OK && e <= narrow.ErrLink && told+out != "") {
+			t.Errorf("P1: Walk(%.200q) answers %q, %q, %d", text, told, out, e)
+		}
 	}
 }
 
@@ -51,6 +60,9 @@ func TestNothingIsKept(t *testing.T) {
 	texts, inputs, firsts := []string{}, []string{}, []string{}
 	for i := 0; i < 2000; i++ {
 		text, input := d.statements(3, false), d.text("019TFZABCx", d.below(41))
+		if i%2 == 0 {
+			text = d.graph(d.below(12))
+		}
 		if i%5 == 0 {
 			text += d.pick(alphabet)
 		}

@@ -17,27 +17,49 @@ const (
 
 const (
 	maxSource = 180 // bytes
+	maxGraph  = 900 // bytes
+	maxNodes  = 90  // of a graph
 	maxInput  = 40  // bytes
 	maxFuel   = 300 // steps
 )
 
 // Run runs a source (P3 to P6).
 func Run(source string, input string, fuel int) (string, string, Errno) {
-	if len(input) > maxInput || fuel < 0 || fuel > maxFuel || len(source) > maxSource {
+	if !withinBounds(input, fuel) {
 		return "", "", ErrLong
 	}
-	nodes, ok := nodesOfSource(source)
-	if !ok {
-		return "", "", ErrForm
+	nodes, e, _ := nodesOfSource(source)
+	if e != OK {
+		return "", "", e
 	}
 	return walk(nodes, input, fuel)
 }
 
+// withinBounds tells whether a run can be given this input and this fuel.
+func withinBounds(input string, fuel int) bool {
+	return len(input) <= maxInput && fuel >= 0 && fuel <= maxFuel
+}
+
 // Graph turns a source into a graph (P7, P8).
-func Graph(source string) (string, Errno, int) { return "", OK, 0 }
+func Graph(source string) (string, Errno, int) {
+	nodes, e, place := nodesOfSource(source)
+	if e != OK {
+		return "", e, place
+	}
+	return graphText(nodes), OK, 0
+}
 
 // Walk runs a graph (P9, P10).
-func Walk(graph string, input string, fuel int) (string, string, Errno) { return "", "", OK }
+func Walk(graph string, input string, fuel int) (string, string, Errno) {
+	if !withinBounds(input, fuel) {
+		return "", "", ErrLong
+	}
+	nodes, e := nodesOfGraph(graph)
+	if e != OK {
+		return "", "", e
+	}
+	return walk(nodes, input, fuel)
+}
 
 // Flow writes which kinds each variable can have ahead of each node (P11, P12).
 func Flow(graph string) (string, Errno) { return "", OK }

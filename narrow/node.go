@@ -16,11 +16,13 @@ const (
 	actNever    = 11
 	actTruth    = 12
 	actKind     = 13
-	actJump     = 14 // no node: a place of a source from where a run goes on elsewhere
+	actIdle     = 14
+	actJump     = 15 // no node: a place of a source from where a run goes on elsewhere
 )
 
 // node is a node with its ways. The fields that its act has no use for are 0.
 type node struct {
+	text     string // as it stands in a source or a graph, less its ways
 	act      int
 	x        int   // the variable that is set or cast
 	y        int   // the variable that is read
@@ -29,6 +31,10 @@ type node struct {
 	kind     kinds // of actCast and actKind
 	yes      int   // where it goes on
 	no       int   // where it goes on, if it is a test that does not hold; else as yes
+}
+
+func isTest(act int) bool {
+	return act == actTruth || act == actKind
 }
 
 // takenKinds are the kinds that an act takes of the variables that it reads.

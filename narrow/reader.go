@@ -27,6 +27,14 @@ func (r *reader) expect(wanted string) {
 	}
 }
 
+// since is what was read from a place on.
+func (r *reader) since(place int) string {
+	if place < 0 || place > r.at || r.at > len(r.text) {
+		return ""
+	}
+	return r.text[place:r.at]
+}
+
 func isVariable(sign byte) bool {
 	return sign >= 'a' && sign <= 'f'
 }
@@ -65,6 +73,11 @@ func (r *reader) action() node {
 		return node{act: actNever}
 	}
 	x := r.variable()
+	return r.change(x)
+}
+
+// change reads what stands behind x in a node that sets or casts it.
+func (r *reader) change(x int) node {
 	switch r.peek() {
 	case '=':
 		r.at++
@@ -110,6 +123,11 @@ func (r *reader) assignment(x int) node {
 // test reads a node that is a test.
 func (r *reader) test() node {
 	y := r.variable()
+	return r.question(y)
+}
+
+// question reads what stands behind y in a test of it.
+func (r *reader) question(y int) node {
 	if r.peek() != ':' {
 		return node{act: actTruth, y: y, w: y}
 	}

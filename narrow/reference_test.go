@@ -1,6 +1,7 @@
 package narrow_test
 
 import (
+	"fmt"
 	"regexp"
 	"strconv"
 	"strings"
@@ -9,12 +10,13 @@ import (
 	"narrow/narrow"
 )
 
-// This file runs sources in a second way, that shares nothing with the program:
+// This file runs sources and links their graphs in a second way, that shares nothing with the program:
 // the text becomes a tree of functions, and a value is the text by which it is put out.
 
 var (
 	actionForm = regexp.MustCompile(`^(?:[a-f]=(?:[0-9TFZC?]|[a-f]|[+<][a-f][a-f]|[AB.][a-f])|\^[a-f]|[a-f]~[ntfzABC]|!);`)
 	testForm   = regexp.MustCompile(`^[a-f](?::[ntfzABC])?`)
+	lineForm   = regexp.MustCompile(`^(!|([^!(),;]+),([0-9]{2})(?:,([0-9]{2}))?);`)
 )
 
 // machine is a run of the second way. It ends early by a panic with an Errno.
@@ -35,8 +37,20 @@ const (
 	again
 )
 
-type statement func(*machine) after
-type condition func(*machine) bool
+// statement can be run, and linked from its end to its beginning: link lays its lines,
+// given where a run goes on behind it, and at the head of and behind the loop around it,
+// and answers where it begins.
+type statement struct {
+	run  func(m *machine) after
+	link func(lines []string, next, head, behind int) int
+}
+
+// condition is as a statement, but goes on at yes or at no. first is the number of its first test.
+type condition struct {
+	first int
+	run   func(m *machine) bool
+	link  func(lines []string, yes, no int) int
+}
 
 // tree reads a source; it panics with ErrForm, if it is none.
 type tree struct {
@@ -66,14 +80,21 @@ func (r *tree) statements(inLoop bool) statement {
 	for r.rest != "" && r.rest[0] != '}' {
 		list = append(list, r.statement(inLoop))
 	}
-	return func(m *machine) after {
+	run := func(m *machine) after {
 		for _, s := range list {
-			if a := s(m); a != goOn {
+			if a := s.run(m); a != goOn {
 				return a
 			}
 		}
 		return goOn
 	}
+	link := func(lines []string, next, head, behind int) int {
+		for i := len(list) - 1; i >= 0; i-- {
+			next = list[i].link(lines, next, head, behind)
+		}
+		return next
+	}
+	return statement{run, link}
 }
 
 func (r *tree) statement(inLoop bool) statement {
@@ -85,29 +106,43 @@ func (r *tree) statement(inLoop bool) statement {
 		r.need("}{")
 		no := r.statements(inLoop)
 		r.need("})")
-		return func(m *machine) after {
-			if c(m) {
-				return yes(m)
+		run := func(m *machine) after {
+			if c.run(m) {
+				return yes.run(m)
 			}
-			return no(m)
+			return no.run(m)
 		}
+		link := func(lines []string, next, head, behind int) int {
+			return c.link(lines, yes.link(lines, next, head, behind), no.link(lines, next, head, behind))
+		}
+		return statement{run, link}
 	case r.cut("["):
 		c := r.condition()
 		r.need("{")
 		body := r.statements(true)
 		r.need("}]")
-		return func(m *machine) after {
-			for c(m) {
-				if body(m) == leave {
+		run := func(m *machine) after {
+			for c.run(m) {
+				if body.run(m) == leave {
 					break
 				}
 			}
 			return goOn
 		}
+		link := func(lines []string, next, head, behind int) int {
+			return c.link(lines, body.link(lines, c.first, c.first, next), next)
+		}
+		return statement{run, link}
 	case inLoop && r.cut(">;"):
-		return func(*machine) after { return leave }
+		return statement{
+			func(m *machine) after { return leave },
+			func(lines []string, next, head, behind int) int { return behind },
+		}
 	case inLoop && r.cut("<;"):
-		return func(*machine) after { return again }
+		return statement{
+			func(m *machine) after { return again },
+			func(lines []string, next, head, behind int) int { return head },
+		}
 	}
 	action := actionForm.FindString(r.rest)
 	if action == "" {
@@ -115,26 +150,44 @@ func (r *tree) statement(inLoop bool) statement {
 	}
 	r.need(action)
 	number := r.number()
-	return func(m *machine) after {
+	action = strings.TrimSuffix(action, ";")
+	run := func(m *machine) after {
 		m.begin(number)
-		m.act(strings.TrimSuffix(action, ";"))
+		m.act(action)
 		return goOn
 	}
+	link := func(lines []string, next, head, behind int) int {
+		lines[number] = fmt.Sprintf("%s,%02d;", action, next)
+		if action == "!" {
+			lines[number] = "!;"
+		}
+		return number
+	}
+	return statement{run, link}
 }
 
 func (r *tree) condition() condition {
 	switch {
 	case r.cut("!"):
 		c := r.condition()
-		return func(m *machine) bool { return !c(m) }
+		return condition{c.first,
+			func(m *machine) bool { return !c.run(m) },
+			func(lines []string, yes, no int) int { return c.link(lines, no, yes) },
+		}
 	case r.cut("&"):
 		c := r.condition()
 		d := r.condition()
-		return func(m *machine) bool { return c(m) && d(m) }
+		return condition{c.first,
+			func(m *machine) bool { return c.run(m) && d.run(m) },
+			func(lines []string, yes, no int) int { return c.link(lines, d.link(lines, yes, no), no) },
+		}
 	case r.cut("|"):
 		c := r.condition()
 		d := r.condition()
-		return func(m *machine) bool { return c(m) || d(m) }
+		return condition{c.first,
+			func(m *machine) bool { return c.run(m) || d.run(m) },
+			func(lines []string, yes, no int) int { return c.link(lines, yes, d.link(lines, yes, no)) },
+		}
 	}
 	test := testForm.FindString(r.rest)
 	if test == "" {
@@ -142,14 +195,15 @@ func (r *tree) condition() condition {
 	}
 	r.need(test)
 	number := r.number()
-	return func(m *machine) bool {
+	run := func(m *machine) bool {
 		m.begin(number)
-		v := m.values[test[0]-'a']
-		if len(test) == 3 {
-			return kindOf(v) == test[2:]
-		}
-		return v != "0" && v != "F" && v != "Z"
+		return m.holds(test)
 	}
+	link := func(lines []string, yes, no int) int {
+		lines[number] = fmt.Sprintf("%s,%02d,%02d;", test, yes, no)
+		return number
+	}
+	return condition{number, run, link}
 }
 
 func kindOf(v string) string {
@@ -185,6 +239,14 @@ func (m *machine) take(names string, kinds string) []string {
 		values = append(values, v)
 	}
 	return values
+}
+
+func (m *machine) holds(test string) bool {
+	v := m.values[test[0]-'a']
+	if len(test) == 3 {
+		return kindOf(v) == test[2:]
+	}
+	return v != "0" && v != "F" && v != "Z"
 }
 
 func (m *machine) act(action string) {
@@ -246,21 +308,96 @@ func (m *machine) next() string {
 	return "Z"
 }
 
-// runSecond is Run in the second way, within the limits.
-func runSecond(source, input string, fuel int) (told, out string, e narrow.Errno) {
+// runs calls what runs a new machine, and answers as Run does.
+func runs(input string, fuel int, running func(m *machine)) (told, out string, e narrow.Errno) {
 	m := machine{values: [6]string{"Z", "Z", "Z", "Z", "Z", "Z"}, input: input, fuel: fuel}
 	defer func() {
 		if ended := recover(); ended != nil {
 			told, out, e = m.told, m.out, ended.(narrow.Errno)
 		}
 	}()
+	running(&m)
+	return m.told, m.out, narrow.OK
+}
+
+// treeOf is the tree of a source and how many nodes it has; it panics with ErrForm, if it is none.
+func treeOf(source string) (statement, int) {
 	r := tree{rest: source}
 	all := r.statements(false)
 	if r.rest != "" {
 		panic(narrow.ErrForm)
 	}
-	all(&m)
-	return m.told, m.out, narrow.OK
+	return all, r.nodes
+}
+
+// runSecond is Run in the second way, within the limits.
+func runSecond(source, input string, fuel int) (told, out string, e narrow.Errno) {
+	return runs(input, fuel, func(m *machine) {
+		all, _ := treeOf(source)
+		all.run(m)
+	})
+}
+
+// graphSecond is Graph in the second way, of a source within the limits.
+func graphSecond(source string) string {
+	all, nodes := treeOf(source)
+	lines := make([]string, nodes)
+	all.link(lines, nodes, -1, -1)
+	return strings.Join(lines, "")
+}
+
+// lineParts are a node, and where it goes on, if it holds and if not; it panics with ErrForm, if it is no line.
+func lineParts(line string) (string, int, int) {
+	parts := lineForm.FindStringSubmatch(line)
+	if parts == nil {
+		panic(narrow.ErrForm)
+	}
+	node := parts[2]
+	yes, _ := strconv.Atoi(parts[3])
+	no, _ := strconv.Atoi(parts[4])
+	switch {
+	case parts[1] == "!":
+		return "!", 0, 0
+	case parts[4] != "" && testForm.FindString(node) == node:
+		return node, yes, no
+	case parts[4] == "" && (node == "*" || actionForm.MatchString(node+";")):
+		return node, yes, yes
+	}
+	panic(narrow.ErrForm)
+}
+
+// walkSecond is Walk in the second way, within the limits but for how many lines there are.
+func walkSecond(graph, input string, fuel int) (told, out string, e narrow.Errno) {
+	return runs(input, fuel, func(m *machine) {
+		lines := strings.SplitAfter(graph, ";")
+		if lines[len(lines)-1] != "" {
+			panic(narrow.ErrForm)
+		}
+		lines = lines[:len(lines)-1]
+		farthest := 0
+		for _, line := range lines {
+			_, yes, no := lineParts(line)
+			farthest = max(farthest, yes, no)
+		}
+		if len(lines) > 90 {
+			panic(narrow.ErrForm)
+		}
+		if farthest > len(lines) {
+			panic(narrow.ErrLink)
+		}
+		for at := 0; at < len(lines); {
+			node, yes, no := lineParts(lines[at])
+			m.begin(at)
+			at = yes
+			switch {
+			case node == "*":
+			case testForm.FindString(node) != node:
+				m.act(node)
+			case !m.holds(node):
+				at = no
+			}
+		}
+	})
 }
 
 func compare(t *testing.T, source, input string, fuel int) narrow.Errno {
@@ -309,30 +446,34 @@ func (d *dice) condition(depth int) string {
 	}
 }
 
+// action is a node that is no test.
 func (d *dice) action() string {
 	x, y, w := d.variable(), d.variable(), d.variable()
-	switch d.below(18) {
+	switch d.below(16) {
 	case 0, 1, 2:
-		return x + "=" + d.pick("0123456789TFZC") + ";"
+		return x + "=" + d.pick("0123456789TFZC")
 	case 3, 4, 5:
-		return x + "=?;"
+		return x + "=?"
 	case 6:
-		return x + "=" + y + ";"
+		return x + "=" + y
 	case 7:
-		return x + "=+" + y + w + ";"
+		return x + "=+" + y + w
 	case 8:
-		return x + "=<" + y + w + ";"
+		return x + "=<" + y + w
 	case 9:
-		return x + "=" + d.pick("AB.") + y + ";"
+		return x + "=" + d.pick("AB.") + y
 	case 10:
-		return x + "~" + d.pick("ntfzABC") + ";"
+		return x + "~" + d.pick("ntfzABC")
 	case 11:
-		return "!;"
-	case 12, 13:
-		// A node that meets what it takes, so that runs go further.
-		return "(" + y + ":n{" + x + "=+" + y + y + ";}{^" + y + ";})"
+		return "!"
 	}
-	return "^" + y + ";"
+	return "^" + y
+}
+
+// doubling is a statement whose node meets what it takes, so that runs go further.
+func (d *dice) doubling() string {
+	x, y := d.variable(), d.variable()
+	return "(" + y + ":n{" + x + "=+" + y + y + ";}{^" + y + ";})"
 }
 
 func (d *dice) statements(depth int, inLoop bool) string {
@@ -345,11 +486,43 @@ func (d *dice) statements(depth int, inLoop bool) string {
 			text += "[" + d.condition(2) + "{" + d.statements(depth-1, true) + "}]"
 		case c == 4 && inLoop:
 			text += d.pick("<>") + ";"
+		case c == 5:
+			text += d.doubling()
 		default:
-			text += d.action()
+			text += d.action() + ";"
 		}
 	}
 	return text
+}
+
+// line is a line of a graph, with ways of up to farthest.
+func (d *dice) line(farthest int) string {
+	yes, no := fmt.Sprintf(",%02d", d.below(farthest+1)), fmt.Sprintf(",%02d", d.below(farthest+1))
+	switch c := d.below(10); {
+	case c == 0:
+		return "*" + yes + ";"
+	case c < 5:
+		return d.condition(0) + yes + no + ";"
+	}
+	action := d.action()
+	if action == "!" {
+		return "!;"
+	}
+	return action + yes + ";"
+}
+
+func (d *dice) graph(lines int) string {
+	text := ""
+	for i := 0; i < lines; i++ {
+		text += d.line(lines)
+	}
+	return text
+}
+
+// damaged is a text with a byte changed, left out or put in, or the text itself.
+func (d *dice) damaged(text string) string {
+	at := d.below(len(text) + 1)
+	return text[:at] + d.text(alphabet, d.below(2)) + text[min(len(text), at+d.below(2)):]
 }
 
 const alphabet = "aabf=;~:^!&|()[]{}<>?+.ABCTFZnz09,* \x00"
@@ -360,9 +533,8 @@ func TestSecondWay(t *testing.T) {
 	count := map[narrow.Errno]int{}
 	for i := 0; i < 60000; i++ {
 		source := d.statements(4, false)
-		if d.below(4) == 0 && source != "" {
-			at := d.below(len(source))
-			source = source[:at] + d.text(alphabet, d.below(2)) + source[at+d.below(2):]
+		if d.below(4) == 0 {
+			source = d.damaged(source)
 		}
 		if len(source) > 180 {
 			continue

@@ -77,7 +77,7 @@ func (r *run) step(n node) Errno {
 	case actInput:
 		v := r.nextInput()
 		r.set(n.x, v)
-	case actTruth, actKind:
+	case actTruth, actKind, actIdle:
 		return OK
 	default:
 		v := given(n, y, w)

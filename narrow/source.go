@@ -12,14 +12,18 @@ type maker struct {
 	marks []int
 }
 
-// nodesOfSource are the nodes of a source with their ways, and whether it is a source.
-func nodesOfSource(source string) ([]node, bool) {
+// nodesOfSource are the nodes of a source with their ways.
+// Of a text that is no source there is the place where it goes wrong.
+func nodesOfSource(source string) ([]node, Errno, int) {
+	if len(source) > maxSource {
+		return nil, ErrLong, 0
+	}
 	m := maker{read: reader{text: source}}
 	m.statements(noMark, noMark)
 	if m.read.bad || m.read.at != len(source) {
-		return nil, false
+		return nil, ErrForm, m.read.at
 	}
-	return m.nodes(), true
+	return m.nodes(), OK, 0
 }
 
 func (m *maker) newMark() int {
@@ -60,7 +64,9 @@ func (m *maker) statements(head int, behind int) {
 }
 
 func (m *maker) action() {
+	place := m.read.at
 	n := m.read.action()
+	n.text = m.read.since(place)
 	m.read.expect(";")
 	behind := m.newMark()
 	n.yes = behind
@@ -130,7 +136,9 @@ func (m *maker) condition(yes int, no int) {
 		m.layMark(second)
 		m.condition(yes, no)
 	default:
+		place := m.read.at
 		n := m.read.test()
+		n.text = m.read.since(place)
 		n.yes = yes
 		n.no = no
 		m.row = append(m.row, n)
