@@ -51,6 +51,15 @@ func TestEveryCallEnds(t *testing.T) {
 		if (e == narrow.ErrLong) != (len(text) > 900) || (e != narrow.OK && e <= narrow.ErrLink && told+out != "") {
 			t.Errorf("P1: Walk(%.200q) answers %q, %q, %d", text, told, out, e)
 		}
+		table, e := narrow.Flow(text)
+		pruned, f := narrow.Prune(text)
+		fault, at := narrow.Accept(text)
+		if (e == narrow.ErrLong) != (len(text) > 900) || e > narrow.ErrLink || f != e || (e != narrow.OK && (fault != e || table+pruned != "")) {
+			t.Errorf("P1: Flow(%.200q) answers %q, %d, Prune %q, %d, Accept %d", text, table, e, pruned, f, fault)
+		}
+		if (fault == narrow.OK || fault == narrow.ErrLong) && at != 0 {
+			t.Errorf("P1: Accept(%.200q) answers %d, %d", text, fault, at)
+		}
 	}
 }
 

@@ -1,26 +1,28 @@
 package narrow
 
-// nodesOfGraph are the nodes of a graph with their ways.
-func nodesOfGraph(graph string) ([]node, Errno) {
+// nodesOfGraph are the nodes of a graph with their ways. Of a text that is no graph there is
+// the place where it goes wrong, of one with a way to nowhere the number of the first such line.
+func nodesOfGraph(graph string) ([]node, Errno, int) {
 	if len(graph) > maxGraph {
-		return nil, ErrLong
+		return nil, ErrLong, 0
 	}
 	r := reader{text: graph}
 	nodes := []node{}
 	for r.at < len(graph) {
 		if len(nodes) >= maxNodes {
-			return nil, ErrForm
+			return nil, ErrForm, r.at
 		}
 		n := r.line()
 		if r.bad {
-			return nil, ErrForm
+			return nil, ErrForm, r.at
 		}
 		nodes = append(nodes, n)
 	}
-	if !linked(nodes) {
-		return nil, ErrLink
+	wrong := firstUnlinked(nodes)
+	if wrong < len(nodes) {
+		return nil, ErrLink, wrong
 	}
-	return nodes, OK
+	return nodes, OK, 0
 }
 
 // line reads a line of a graph.
@@ -74,14 +76,15 @@ func (r *reader) digit() int {
 	return int(sign - '0')
 }
 
-// linked tells whether all ways lead to a line or to the end.
-func linked(nodes []node) bool {
-	for _, n := range nodes {
+// firstUnlinked is the number of the first node with a way that leads neither to a line nor to the end,
+// or how many nodes there are, if none has one.
+func firstUnlinked(nodes []node) int {
+	for i, n := range nodes {
 		if n.yes > len(nodes) || n.no > len(nodes) {
-			return false
+			return i
 		}
 	}
-	return true
+	return len(nodes)
 }
 
 // graphText writes nodes as a graph.

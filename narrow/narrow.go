@@ -54,7 +54,7 @@ func Walk(graph string, input string, fuel int) (string, string, Errno) {
 	if !withinBounds(input, fuel) {
 		return "", "", ErrLong
 	}
-	nodes, e := nodesOfGraph(graph)
+	nodes, e, _ := nodesOfGraph(graph)
 	if e != OK {
 		return "", "", e
 	}
@@ -62,10 +62,32 @@ func Walk(graph string, input string, fuel int) (string, string, Errno) {
 }
 
 // Flow writes which kinds each variable can have ahead of each node (P11, P12).
-func Flow(graph string) (string, Errno) { return "", OK }
+func Flow(graph string) (string, Errno) {
+	nodes, e, _ := nodesOfGraph(graph)
+	if e != OK {
+		return "", e
+	}
+	table := leastTable(nodes)
+	return tableText(table), OK
+}
 
 // Accept tells whether a graph can meet a value of a wrong kind (P13).
-func Accept(graph string) (Errno, int) { return OK, 0 }
+func Accept(graph string) (Errno, int) {
+	nodes, e, place := nodesOfGraph(graph)
+	if e != OK {
+		return e, place
+	}
+	table := leastTable(nodes)
+	return firstFault(nodes, table)
+}
 
 // Prune leaves out of a graph what cannot be come to (P14).
-func Prune(graph string) (string, Errno) { return "", OK }
+func Prune(graph string) (string, Errno) {
+	nodes, e, _ := nodesOfGraph(graph)
+	if e != OK {
+		return "", e
+	}
+	table := leastTable(nodes)
+	kept := prunedNodes(nodes, table)
+	return graphText(kept), OK
+}

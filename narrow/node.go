@@ -37,6 +37,15 @@ func isTest(act int) bool {
 	return act == actTruth || act == actKind
 }
 
+// setsVariable tells whether a node with this act gives x a value.
+func setsVariable(act int) bool {
+	switch act {
+	case actConstant, actInput, actCopy, actSum, actBelow, actMakeA, actMakeB, actOpen:
+		return true
+	}
+	return false
+}
+
 // takenKinds are the kinds that an act takes of the variables that it reads.
 func takenKinds(act int) kinds {
 	switch act {
